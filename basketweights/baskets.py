@@ -1,6 +1,7 @@
 """The calls on a table of pieces and its baskets, and what they answer."""
 
-from basketweights.weighing import best_set, fewest_pieces, most_pieces, part_by_set, weigh_sets
+from basketweights.weighing import best_set, count_sets, fewest_pieces, heaviest_within, most_pieces
+from basketweights.weighing import part_by_set, weigh_row, weigh_sets
 
 NO_SUCH = -2
 NONE_THERE = -6
@@ -14,6 +15,7 @@ MOST_ON_TABLE = 9
 MOST_THAT_CAME = 60
 MOST_PIECE_GRAMS = 1000
 MOST_GRAMS = 10000
+MOST_NEEDED = 1000
 
 BEGIN = 0
 
@@ -152,8 +154,90 @@ def call_under(table, told):
     limit = told[0]
     if limit > MOST_GRAMS:
         return [OUT_OF_RANGE]
-    # The set of no pieces weighs 0, so there is always one to choose from.
-    return [max([weight for weight in weigh_sets(table.pieces) if weight <= limit])]
+    return [heaviest_within(table.pieces, limit)]
+
+
+def call_half(table, told):
+    total = table.weigh_all()
+    # The nearer the lighter half is to the middle, the less the two differ.
+    lighter = heaviest_within(table.pieces, total // 2)
+    return [lighter, total - lighter]
+
+
+def call_row(table, told):
+    row = weigh_row(table.pieces, table.wanted)
+    return [len(row)] + row
+
+
+def call_weigh(table, told):
+    chosen = told[0]
+    weights = weigh_sets(table.pieces)
+    if chosen >= len(weights):
+        return [OUT_OF_RANGE]
+    return [weights[chosen], count_sets(table.pieces)[chosen]]
+
+
+def call_could(table, told):
+    least = told[0]
+    if least > MOST_GRAMS:
+        return [OUT_OF_RANGE]
+    if table.weigh_all() < least:
+        return [0]
+    return [1]
+
+
+def call_need(table, told):
+    grams = told[0]
+    if grams < 1 or grams > MOST_PIECE_GRAMS:
+        return [OUT_OF_RANGE]
+    lacking = max(0, table.wanted - table.weigh_all())
+    if lacking > MOST_NEEDED * grams:
+        return [NOT_ENOUGH]
+    # A piece that is needed in part is needed whole, so this rounds up.
+    return [(lacking + grams - 1) // grams]
+
+
+def call_heaviest(table, told):
+    if len(table.pieces) == 0:
+        return [NONE_THERE]
+    grams = max(table.pieces)
+    return [table.pieces.index(grams), grams]
+
+
+def call_between(table, told):
+    lowest = told[0]
+    highest = told[1]
+    if highest < lowest:
+        return [OUT_OF_RANGE]
+    places = [i for i, grams in enumerate(table.pieces) if lowest <= grams and grams <= highest]
+    return [len(places)] + places
+
+
+def call_middle(table, told):
+    count = len(table.pieces)
+    if count == 0:
+        return [NONE_THERE]
+    # The one less makes it the lighter of the two where the count is even.
+    return [sorted(table.pieces)[(count - 1) // 2], table.weigh_all() // count]
+
+
+def call_basket(table, told):
+    place = told[0]
+    if place >= len(table.baskets):
+        return [NO_SUCH]
+    grams = table.baskets[place]
+    return [len(grams), sum(grams)] + grams
+
+
+def call_sums(table, told):
+    weights = [sum(basket) for basket in table.baskets]
+    # A basket lighter than what's wanted now must not make up for what others have too much.
+    beyond = sum([max(0, weight - table.wanted) for weight in weights])
+    return [0, table.count_came(), len(table.pieces), table.weigh_all(), len(weights), sum(weights), beyond]
+
+
+def call_state(table, told):
+    return [len(table.pieces), table.wanted] + table.pieces
 
 
 # Both tables stand in the order of the calls' numbers.
@@ -170,8 +254,19 @@ CALLS = (
     call_most,
     call_ways,
     call_under,
+    call_half,
+    call_row,
+    call_weigh,
+    call_could,
+    call_need,
+    call_heaviest,
+    call_between,
+    call_middle,
+    call_basket,
+    call_sums,
+    call_state,
 )
-TOLD_COUNTS = (1, 1, 1, 1, 0, 1, 0, 1, 1, 1, 1, 1)
+TOLD_COUNTS = (1, 1, 1, 1, 0, 1, 0, 1, 1, 1, 1, 1, 0, 0, 1, 1, 1, 0, 2, 0, 1, 0, 0)
 
 
 def answer_call(table, number, told):

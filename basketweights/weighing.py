@@ -47,6 +47,12 @@ def most_pieces(pieces, limit):
     return (count, weight)
 
 
+def heaviest_within(pieces, limit):
+    """Tell the greatest weight of a set that is no more than limit."""
+    # The set of no pieces weighs 0, so there is always one to choose from.
+    return max([weight for weight in weigh_sets(pieces) if weight <= limit])
+
+
 def part_by_set(pieces, chosen):
     """Part the pieces into those of the set and the others, both as they lay."""
     inside = []
@@ -59,3 +65,14 @@ def part_by_set(pieces, chosen):
             outside.append(grams)
         rest = rest // 2
     return (inside, outside)
+
+
+def weigh_row(pieces, wanted):
+    """Tell what each basket weighs if one best set after another is packed; wanted must be 1 or more."""
+    row = []
+    left = pieces
+    while sum(left) >= wanted:
+        found = best_set(left, wanted)
+        row.append(found[0])
+        left = part_by_set(left, found[2])[1]
+    return row

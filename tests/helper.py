@@ -18,6 +18,17 @@ CALLS = {
     "most": (9, 1),
     "ways": (10, 1),
     "under": (11, 1),
+    "half": (12, 0),
+    "row": (13, 0),
+    "weigh": (14, 1),
+    "could": (15, 1),
+    "need": (16, 1),
+    "heaviest": (17, 0),
+    "between": (18, 2),
+    "middle": (19, 0),
+    "basket": (20, 1),
+    "sums": (21, 0),
+    "state": (22, 0),
 }
 
 GREATEST = 4294967295
@@ -76,9 +87,10 @@ def packed_singly(count):
 def probe(baskets):
     """Calls whose answers tell all that the object keeps, if it has so many baskets.
 
-    It wants 1, takes all pieces away, then unpacks each basket and takes its pieces away.
+    It looks at all of it; then it wants 1, takes all pieces away, unpacks each basket and takes its pieces away.
     """
-    calls = [("want", 1)] + [("take", 0)] * 10
+    calls = [("state",), ("sums",)] + [("basket", b) for b in range(baskets + 1)]
+    calls += [("want", 1)] + [("take", 0)] * 10
     for _ in range(baskets):
         calls += [("unpack",)] + [("take", 0)] * 10
     return calls + [("unpack",)]

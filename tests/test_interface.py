@@ -3,12 +3,15 @@ import io
 import unittest
 
 from basketweights.baskets import answers
-from helper import flat, laid, parted
+from helper import CALLS, flat, laid, parted
 
 LINE = laid(100, 70, 45, 60, 90) + [
     ("best", 0), ("best", 91), ("fewest", 100), ("most", 100), ("ways", 115), ("under", 100),
     ("pack",), ("piece", 0), ("take", 9), ("packset", 1), ("packset", 8), ("want", 60), ("packset", 1),
-    ("unpack",), ("pack",), ("pack",), ("pack",), ("want", 0), ("begin", 0), ("take", 0),
+    ("half",), ("row",), ("weigh", 3), ("weigh", 8), ("could", 60), ("could", 10001), ("need", 7), ("need", 0),
+    ("heaviest",), ("between", 45, 70), ("between", 70, 45), ("middle",), ("basket", 0), ("basket", 9), ("sums",),
+    ("state",), ("unpack",), ("pack",), ("pack",), ("row",), ("pack",), ("want", 0), ("begin", 0), ("take", 0),
+    ("want", 10000), ("need", 1), ("heaviest",), ("middle",), ("half",), ("sums",), ("state",),
 ]
 
 
@@ -37,14 +40,44 @@ class Interface(unittest.TestCase):
              3, 60, 1, 1, 2, 1, 60, 2, 1, 60, 1, 1, 1, 0],
         )
 
+        # half, row, weigh 3, could 70, need 9, heaviest, between 30 40, middle, basket 0, sums, state
+        calls = [0, 50, 1, 30, 1, 40, 1, 60, 4, 12, 13, 14, 3, 15, 70, 16, 9, 17, 18, 30, 40, 19, 20, 0, 21, 22]
+        self.assertEqual(
+            answers(calls),
+            [1, 0, 2, 0, 30, 2, 1, 70, 2, 2, 130, 3, 0, 60, 4, 2, 30, 40, 2, 1, 70, 2, 70, 2, 1, 1, 1, 0, 2, 1, 40,
+             3, 2, 0, 1, 2, 30, 35, 3, 1, 60, 60, 7, 0, 3, 2, 70, 1, 60, 10, 4, 2, 50, 30, 40],
+        )
+
+    def test_the_calls_behind_one_are_read_at_their_place(self):
+        # What is told with a call is never read as a call, be it answered or refused.
+        self.assertEqual(answers([18, 0, 0, 22, 18, 0, 50, 12]), [1, -11] * 4)
+        self.assertEqual(
+            answers([0, 5, 18, 1, 0, 18, 22, 22, 14, 22, 15, 22, 16, 22, 20, 22, 22]),
+            [1, 0, 1, -22, 1, 0, 1, -22, 1, 0, 1, 1, 1, -2, 2, 0, 5],
+        )
+
     def test_a_refusal_is_its_number_alone(self):
         self.assertEqual(answers([4]), [1, -11])
         self.assertEqual(answers([0, 0]), [1, -22])
         self.assertEqual(answers([0, 5, 4, 5, 1, 5, 0, 6, 2, 0, 7, 1]), [1, 0, 1, -33, 1, -22, 1, -12, 1, -6, 1, -2, 1, -33])
+        self.assertEqual(
+            answers([0, 5000, 14, 1, 15, 10001, 16, 0, 16, 1, 17, 18, 2, 1, 19, 20, 0]),
+            [1, 0, 1, -22, 1, -22, 1, -22, 1, -33, 1, -6, 1, -22, 1, -6, 1, -2],
+        )
 
     def test_a_line_of_256_calls(self):
         calls = [0, 5] + [1, 7, 2, 0] * 127 + [10, 0]
         self.assertEqual(answers(calls), [1, 0] + [2, 0, 7, 1, 7] * 127 + [1, 1])
+
+    def test_a_line_of_256_calls_with_long_answers(self):
+        calls = [0, 1] + [1, 1000] * 9 + [13, 22, 18, 0, 4294967295] * 82
+        row = [10, 9] + [1000] * 9
+        state = [11, 9, 1] + [1000] * 9
+        between = [10, 9, 0, 1, 2, 3, 4, 5, 6, 7, 8]
+        self.assertEqual(answers(calls)[2 + 9 * 3:], (row + state + between) * 82)
+
+    def test_the_line_has_every_call(self):
+        self.assertEqual({name for name, *_ in LINE}, set(CALLS))
 
     def test_a_list_of_whole_numbers(self):
         found = answers(flat(LINE))
